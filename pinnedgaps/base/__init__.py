@@ -1,0 +1,1 @@
+"""What everything else rests on: exact numbers, and tables without a minus."""

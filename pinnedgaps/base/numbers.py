@@ -1,0 +1,206 @@
+"""Exact numbers: integers of at most sixty digits, and fractions of any length."""
+
+from math import gcd
+
+from pinnedgaps.errors import InvalidNumber, InvalidOperation, ParseError
+
+MAX_NAME = 8
+MAX_RAISED = 1000
+MAX_HALVINGS = 30
+MAX_TEXT = 400
+
+# The least integer of more than sixty digits.
+_TOO_LONG = 10 ** 60
+
+
+def is_integer(value):
+    """Whether the value is an integer of at most sixty digits."""
+    return _is_whole(value) and abs(value) < _TOO_LONG
+
+
+def is_name(value):
+    """Whether the value is a string of one to eight letters a to z."""
+    if not isinstance(value, str) or not 1 <= len(value) <= MAX_NAME:
+        return False
+    return all(["a" <= letter <= "z" for letter in value])
+
+
+def is_fraction(value):
+    """Whether the value is a pair of integers in lowest terms, the bottom at least 1."""
+    if not isinstance(value, tuple) or len(value) != 2:
+        return False
+    top, bottom = value
+    if not _is_whole(top) or not _is_whole(bottom):
+        return False
+    return bottom >= 1 and gcd(top, bottom) == 1
+
+
+def is_number(value):
+    """Whether the value is an integer of at most sixty digits, or a fraction."""
+    return is_integer(value) or is_fraction(value)
+
+
+def is_within(value, low, high):
+    """Whether the value is an integer from low to high, both among them."""
+    return is_integer(value) and low <= value <= high
+
+
+def pair_of(number):
+    """A number as a fraction; the caller knows that it is a number."""
+    if isinstance(number, tuple):
+        return number
+    return (number, 1)
+
+
+def fraction(top, bottom):
+    """The fraction that is the quotient of two integers of any length."""
+    if not _is_whole(top):
+        raise InvalidNumber(top)
+    if not _is_whole(bottom) or bottom == 0:
+        raise InvalidNumber(bottom)
+    return _reduced(top, bottom)
+
+
+def added(one, other):
+    """The sum of two numbers, a fraction."""
+    top, bottom = _checked(one)
+    other_top, other_bottom = _checked(other)
+    return _reduced(top * other_bottom + other_top * bottom, bottom * other_bottom)
+
+
+def less(one, other):
+    """The first number less the second one, a fraction."""
+    top, bottom = _checked(one)
+    other_top, other_bottom = _checked(other)
+    return _reduced(top * other_bottom - other_top * bottom, bottom * other_bottom)
+
+
+def multiplied(one, other):
+    """The product of two numbers, a fraction."""
+    top, bottom = _checked(one)
+    other_top, other_bottom = _checked(other)
+    return _reduced(top * other_top, bottom * other_bottom)
+
+
+def divided(one, other):
+    """The first number, divided by the second one, a fraction."""
+    top, bottom = _checked(one)
+    other_top, other_bottom = _checked(other)
+    if other_top == 0:
+        raise InvalidOperation("no number can be divided by 0")
+    return _reduced(top * other_bottom, bottom * other_top)
+
+
+def compared(one, other):
+    """-1, 0 or 1, as the first number is below, equal to or above the second one."""
+    top, bottom = _checked(one)
+    other_top, other_bottom = _checked(other)
+    left = top * other_bottom
+    right = other_top * bottom
+    if left == right:
+        return 0
+    return -1 if left < right else 1
+
+
+def power_of(number, many):
+    """The power of a number, a fraction; the exponent can be below 0."""
+    top, bottom = _checked(number)
+    if not is_within(many, -MAX_RAISED, MAX_RAISED):
+        raise InvalidNumber(many)
+    if many < 0:
+        if top == 0:
+            raise InvalidOperation("0 has no power with an exponent below 0")
+        top, bottom = _reduced(bottom, top)
+    # Powers of integers without a common divisor have none either.
+    return (_raised(top, abs(many)), _raised(bottom, abs(many)))
+
+
+def floor_of(number):
+    """The greatest integer that is not above the number."""
+    top, bottom = _checked(number)
+    return top // bottom
+
+
+def grid_below(number, halvings):
+    """The greatest multiple of 1 / 2 ** halvings that is not above the number."""
+    top, bottom = _checked(number)
+    _check_halvings(halvings)
+    return _reduced((top << halvings) // bottom, 1 << halvings)
+
+
+def grid_above(number, halvings):
+    """The least multiple of 1 / 2 ** halvings that is not below the number."""
+    top, bottom = _checked(number)
+    _check_halvings(halvings)
+    # Only // is there, which rounds down: the number is turned around twice.
+    return _reduced(-((-top << halvings) // bottom), 1 << halvings)
+
+
+def number_text(number):
+    """The text of a number, like -3/2, or 5 for a number with the bottom 1."""
+    top, bottom = _checked(number)
+    if bottom == 1:
+        return str(top)
+    return f"{top}/{bottom}"
+
+
+def number_of_text(text):
+    """The number with a text, a fraction."""
+    if not isinstance(text, str) or len(text) > MAX_TEXT:
+        raise ParseError(0)
+    pair = _pair_of_text(text)
+    if not is_fraction(pair):
+        raise ParseError(0)
+    # One number can be written in several ways, but has one text only.
+    if number_text(pair) != text:
+        raise ParseError(0)
+    return pair
+
+
+def _is_whole(value):
+    """Whether the value is an integer of any length."""
+    return isinstance(value, int) and not isinstance(value, bool)
+
+
+def _checked(number):
+    """A number as a fraction, behind its check."""
+    if not is_number(number):
+        raise InvalidNumber(number)
+    return pair_of(number)
+
+
+def _check_halvings(halvings):
+    if not is_within(halvings, 0, MAX_HALVINGS):
+        raise InvalidNumber(halvings)
+
+
+def _reduced(top, bottom):
+    """The fraction that is the quotient of two integers, the second one not 0."""
+    common = gcd(top, bottom)
+    if bottom < 0:
+        common = -common
+    return (top // common, bottom // common)
+
+
+def _raised(base, many):
+    """The power of an integer, by squaring: the exponents here can be large."""
+    if many == 0:
+        return 1
+    half = _raised(base, many // 2)
+    if (many & 1) == 0:
+        return half * half
+    return half * half * base
+
+
+def _pair_of_text(text):
+    """The pair of integers that a text tells, None if it tells none."""
+    top, slash, bottom = text.partition("/")
+    if slash == "":
+        bottom = "1"
+    if not _is_digits(top.removeprefix("-")) or not _is_digits(bottom):
+        return None
+    return (int(top), int(bottom))
+
+
+def _is_digits(word):
+    return word != "" and all(["0" <= sign <= "9" for sign in word])

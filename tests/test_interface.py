@@ -1,0 +1,102 @@
+"""What every module must have under its name, and the plain rules for the files of the package."""
+
+import ast
+import doctest
+import importlib
+import inspect
+import pathlib
+import unittest
+import warnings
+
+ROOT = pathlib.Path(__file__).resolve().parent.parent
+PACKAGE = ROOT / "pinnedgaps"
+FILES = sorted(PACKAGE.rglob("*.py"))
+
+# Each function with its parameters, in their order.
+FUNCTIONS = {
+    "pinnedgaps.base.numbers": {
+        "is_integer": "value", "is_name": "value", "is_fraction": "value", "is_number": "value",
+        "fraction": "top bottom", "added": "one other", "less": "one other", "multiplied": "one other",
+        "divided": "one other", "compared": "one other", "power_of": "number many", "floor_of": "number",
+        "grid_below": "number halvings", "grid_above": "number halvings", "number_text": "number",
+        "number_of_text": "text",
+    },
+    "pinnedgaps.base.tables": {
+        "is_table": "value", "diagonal_table": "numbers", "has_no_minus": "table", "type_of": "table",
+        "diagonal_paper": "table", "is_diagonal_paper": "table value", "minus_row": "table",
+        "is_minus_row": "table value", "value_at": "table row", "table_sum": "one other",
+        "table_scaled": "table number", "table_part": "table places", "changed_table": "table change",
+        "determinant": "table",
+    },
+}
+OUTSIDE = {"math": ("gcd", "lcm")}
+
+
+class InterfaceTest(unittest.TestCase):
+    def test_functions_are_defined_where_they_are_listed(self):
+        for module_name, functions in FUNCTIONS.items():
+            module = importlib.import_module(module_name)
+            for name, parameters in functions.items():
+                with self.subTest(name):
+                    found = getattr(module, name)
+                    self.assertEqual(found.__module__, module_name)
+                    self.assertEqual(" ".join(inspect.signature(found).parameters), parameters)
+
+
+class ReadmeTest(unittest.TestCase):
+    def test_examples(self):
+        found = doctest.testfile(str(ROOT / "README.md"), module_relative=False)
+        self.assertEqual(found.failed, 0)
+        self.assertGreater(found.attempted, 5)
+
+
+class FilesTest(unittest.TestCase):
+    def each_node(self):
+        for path in FILES:
+            for node in ast.walk(ast.parse(path.read_text())):
+                yield path, node
+
+    def test_folders_hold_plain_files_alone(self):
+        for path in PACKAGE.rglob("*"):
+            if "__pycache__" not in path.parts:
+                self.assertTrue(path.is_dir() or path.suffix == ".py", path)
+                self.assertTrue(path.is_file() or (path / "__init__.py").is_file(), path)
+
+    def test_characters_and_lengths(self):
+        for path in FILES:
+            text = path.read_text()
+            self.assertTrue(all(" " <= sign <= "~" or sign == "\n" for sign in text), path)
+            self.assertLess(len(text.splitlines()), 400, path)
+            self.assertLessEqual(max(map(len, text.splitlines())), 120, path)
+
+    def test_python_gives_no_warning(self):
+        with warnings.catch_warnings():
+            warnings.simplefilter("error")
+            for path in FILES:
+                compile(path.read_text(), str(path), "exec")
+
+    def test_functions_have_at_most_40_lines(self):
+        for path, node in self.each_node():
+            if isinstance(node, ast.FunctionDef):
+                self.assertLessEqual(node.end_lineno - node.lineno + 1, 40, (path, node.name))
+
+    def test_imports(self):
+        for path, node in self.each_node():
+            self.assertNotIsInstance(node, ast.Import, path)
+            if isinstance(node, ast.ImportFrom):
+                self.assertEqual(node.level, 0, path)
+                self.assertTrue(all(part.asname is None for part in node.names), path)
+                if not node.module.startswith("pinnedgaps."):
+                    for part in node.names:
+                        self.assertIn(part.name, OUTSIDE.get(node.module, ()), path)
+
+    def test_no_floats(self):
+        for path, node in self.each_node():
+            self.assertNotIsInstance(node, ast.Div, path)
+            if isinstance(node, ast.Constant):
+                self.assertNotIsInstance(node.value, (float, complex), path)
+
+    def test_what_the_language_leaves_out(self):
+        barred = (ast.Global, ast.AsyncFunctionDef, ast.Await, ast.TryStar)
+        for path, node in self.each_node():
+            self.assertNotIsInstance(node, barred, path)
