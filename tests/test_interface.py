@@ -28,8 +28,36 @@ FUNCTIONS = {
         "table_scaled": "table number", "table_part": "table places", "changed_table": "table change",
         "determinant": "table",
     },
+    "pinnedgaps.bags.lots": {
+        "is_lots_data": "value", "is_pin": "lots value", "are_scaled": "one other", "scaled_to": "lots number",
+    },
+    "pinnedgaps.bags.rows": {
+        "rows_lots": "rows states", "lot_of_row": "row states", "row_of_lot": "lot states",
+        "is_row_lot": "states value", "joined": "one other", "level_lots": "lots size", "even_weights": "lots",
+        "is_even": "lots", "restricted": "lots some", "renamed": "lots names",
+    },
+    "pinnedgaps.nearby.local": {
+        "link_things": "lots pin", "pair_weights": "lots pin", "masses": "lots pin", "local_walk": "lots pin",
+        "walk_shares": "lots pin", "hangs_together": "lots pin", "pieces": "lots pin", "parting": "lots pin",
+        "is_parting": "lots pin value",
+    },
+    "pinnedgaps.nearby.bounds": {
+        "bound_table": "lots pin bound", "is_bound": "lots pin bound", "near_bound": "lots pin halvings",
+        "low_row": "lots pin bound", "is_low_row": "lots pin bound value", "row_quotient_at": "lots pin row",
+        "value_stretch": "lots pin halvings",
+    },
 }
-OUTSIDE = {"math": ("gcd", "lcm")}
+# Each class with its methods and their parameters; the own object is left out.
+METHODS = {
+    ("pinnedgaps.bags.lots", "Lots"): {
+        "__init__": "weights", "all_of": "things size", "even": "some", "pins": "size", "weight_of": "pin",
+        "share_of": "pin", "link": "pin", "times": "factors", "__eq__": "other", "__len__": "",
+        "__contains__": "value", "__str__": "",
+    },
+}
+CLASS_METHODS = (("Lots", "all_of"), ("Lots", "even"))
+PROPERTIES = {("pinnedgaps.bags.lots", "Lots"): ("weights", "lots", "size", "things", "total")}
+OUTSIDE = {"math": ("gcd", "lcm", "comb")}
 
 
 class InterfaceTest(unittest.TestCase):
@@ -41,6 +69,26 @@ class InterfaceTest(unittest.TestCase):
                     found = getattr(module, name)
                     self.assertEqual(found.__module__, module_name)
                     self.assertEqual(" ".join(inspect.signature(found).parameters), parameters)
+
+
+    def test_methods_are_defined_in_their_class(self):
+        for (module_name, class_name), methods in METHODS.items():
+            found = getattr(importlib.import_module(module_name), class_name)
+            self.assertEqual(found.__module__, module_name)
+            for name, parameters in methods.items():
+                with self.subTest(name):
+                    method = vars(found)[name]
+                    self.assertIs(isinstance(method, classmethod), (class_name, name) in CLASS_METHODS)
+                    names = list(inspect.signature(getattr(method, "__func__", method)).parameters)
+                    self.assertEqual(" ".join(names[1:]), parameters)
+
+    def test_properties_cannot_be_assigned(self):
+        for (module_name, class_name), names in PROPERTIES.items():
+            found = getattr(importlib.import_module(module_name), class_name)
+            for name in names:
+                with self.subTest(name):
+                    self.assertIsInstance(vars(found)[name], property)
+                    self.assertIsNone(vars(found)[name].fset)
 
 
 class ReadmeTest(unittest.TestCase):
@@ -97,6 +145,6 @@ class FilesTest(unittest.TestCase):
                 self.assertNotIsInstance(node.value, (float, complex), path)
 
     def test_what_the_language_leaves_out(self):
-        barred = (ast.Global, ast.AsyncFunctionDef, ast.Await, ast.TryStar)
+        barred = (ast.Global, ast.AsyncFunctionDef, ast.Await, ast.TryStar, ast.GeneratorExp)
         for path, node in self.each_node():
             self.assertNotIsInstance(node, barred, path)

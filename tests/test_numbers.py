@@ -8,6 +8,7 @@ from pinnedgaps.base.numbers import (
     added, compared, divided, floor_of, fraction, grid_above, grid_below, is_fraction, is_integer, is_name,
     is_number, less, multiplied, number_of_text, number_text, power_of)
 from pinnedgaps.errors import InvalidNumber, InvalidOperation, ParseError
+from tests.exact import as_pair, exact
 from tests.samples import LONG, LONG_BOTTOM, NO_WHOLE_NUMBERS, ODD_VALUES, SIXTY, SIXTY_ONE
 
 LONG_FRACTION = (LONG, LONG_BOTTOM)
@@ -16,14 +17,6 @@ NUMBERS = (
     (SIXTY_ONE, 1), (-SIXTY_ONE, 7), LONG_FRACTION, (-LONG, LONG_BOTTOM), (1, LONG_BOTTOM), (LONG_BOTTOM, LONG),
 )
 PAIR_FUNCTIONS = (added, less, multiplied, divided, compared)
-
-
-def exact(number):
-    return Fraction(*number) if isinstance(number, tuple) else Fraction(number)
-
-
-def as_pair(value):
-    return (value.numerator, value.denominator)
 
 
 class NumbersTest(unittest.TestCase):

@@ -10,6 +10,7 @@ from pinnedgaps.base.tables import (
     changed_table, determinant, diagonal_paper, diagonal_table, has_no_minus, is_diagonal_paper, is_minus_row,
     is_table, minus_row, table_part, table_scaled, table_sum, type_of, value_at)
 from pinnedgaps.errors import InvalidNumber, InvalidOperation, InvalidRow, InvalidTable
+from tests.exact import exact, exact_rows
 from tests.samples import LONG, LONG_BOTTOM, ODD_VALUES, SIXTY, SIXTY_ONE
 
 SADDLE, FLAT = ((0, 1), (1, 0)), ((0, 0), (0, -1))
@@ -28,14 +29,6 @@ NO_ROWS_OF_TWO = tuple(value for value in ODD_VALUES if value not in ROWS_OF_TWO
 NO_SQUARES_OF_TWO = ODD_VALUES + (
     (1, 2), ((1, 2),), ((1, 2), (3, 4), (5, 6)), ((1, 2), (3,)), ((1, 2, 3), (4, 5, 6)), [[1, 0], [0, 1]],
     ([1, 0], [0, 1]), [(1, 0), (0, 1)], ((1, 0), (0, True)), ((1, 0), (0, (2, 2))), ((1, 0), (0, SIXTY_ONE)))
-
-
-def exact(number):
-    return Fraction(*number) if isinstance(number, tuple) else Fraction(number)
-
-
-def exact_rows(rows):
-    return [[exact(entry) for entry in row] for row in rows]
 
 
 def exact_determinant(rows):

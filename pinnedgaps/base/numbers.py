@@ -1,6 +1,6 @@
 """Exact numbers: integers of at most sixty digits, and fractions of any length."""
 
-from math import gcd
+from math import gcd, lcm
 
 from pinnedgaps.errors import InvalidNumber, InvalidOperation, ParseError
 
@@ -50,6 +50,52 @@ def pair_of(number):
     if isinstance(number, tuple):
         return number
     return (number, 1)
+
+
+def is_above_0(value):
+    """Whether the value is a number above 0."""
+    return is_number(value) and pair_of(value)[0] > 0
+
+
+def is_row(value, count):
+    """Whether the value is a tuple of so many numbers."""
+    if not isinstance(value, tuple) or len(value) != count:
+        return False
+    return all([is_number(number) for number in value])
+
+
+def check_number(value):
+    """Refuses what is no number."""
+    if not is_number(value):
+        raise InvalidNumber(value)
+
+
+def check_within(value, low, high):
+    """Refuses what is no integer from low to high, both among them."""
+    if not is_within(value, low, high):
+        raise InvalidNumber(value)
+
+
+def check_halvings(halvings):
+    """Refuses what is no number of halvings."""
+    check_within(halvings, 0, MAX_HALVINGS)
+
+
+def common_divisor(integers):
+    """The greatest common divisor of a list of integers, 0 if there is no other one than 0."""
+    divisor = 0
+    for entry in integers:
+        divisor = gcd(divisor, entry)
+    return divisor
+
+
+def whole_row(numbers):
+    """The pair of a list of integers and of the least integer by which the numbers were multiplied for it."""
+    pairs = [pair_of(number) for number in numbers]
+    scale = 1
+    for _, bottom in pairs:
+        scale = lcm(scale, bottom)
+    return ([top * (scale // bottom) for top, bottom in pairs], scale)
 
 
 def fraction(top, bottom):
@@ -105,8 +151,7 @@ def compared(one, other):
 def power_of(number, many):
     """The power of a number, a fraction; the exponent can be below 0."""
     top, bottom = _checked(number)
-    if not is_within(many, -MAX_RAISED, MAX_RAISED):
-        raise InvalidNumber(many)
+    check_within(many, -MAX_RAISED, MAX_RAISED)
     if many < 0:
         if top == 0:
             raise InvalidOperation("0 has no power with an exponent below 0")
@@ -124,14 +169,14 @@ def floor_of(number):
 def grid_below(number, halvings):
     """The greatest multiple of 1 / 2 ** halvings that is not above the number."""
     top, bottom = _checked(number)
-    _check_halvings(halvings)
+    check_halvings(halvings)
     return _reduced((top << halvings) // bottom, 1 << halvings)
 
 
 def grid_above(number, halvings):
     """The least multiple of 1 / 2 ** halvings that is not below the number."""
     top, bottom = _checked(number)
-    _check_halvings(halvings)
+    check_halvings(halvings)
     # Only // is there, which rounds down: the number is turned around twice.
     return _reduced(-((-top << halvings) // bottom), 1 << halvings)
 
@@ -164,14 +209,8 @@ def _is_whole(value):
 
 def _checked(number):
     """A number as a fraction, behind its check."""
-    if not is_number(number):
-        raise InvalidNumber(number)
+    check_number(number)
     return pair_of(number)
-
-
-def _check_halvings(halvings):
-    if not is_within(halvings, 0, MAX_HALVINGS):
-        raise InvalidNumber(halvings)
 
 
 def _reduced(top, bottom):

@@ -6,9 +6,8 @@ the last pivot, which leaves no remainder, since all entries are determinants
 of parts of the whole rows. So the integers stay as short as they can.
 """
 
-from math import gcd, lcm
-
-from pinnedgaps.base.numbers import added, fraction, is_number, is_within, multiplied, pair_of
+from pinnedgaps.base.numbers import (
+    added, common_divisor, fraction, is_row, is_within, multiplied, pair_of, whole_row)
 from pinnedgaps.errors import InvalidOperation, InvalidRow, InvalidTable
 
 MAX_TABLE = 40
@@ -25,7 +24,7 @@ def diagonal_table(numbers):
     """The table with these numbers at the diagonal, and 0 at all other places."""
     if not isinstance(numbers, tuple) or not 1 <= len(numbers) <= MAX_TABLE:
         raise InvalidOperation("there must be a tuple of 1 to 40 numbers")
-    if not _is_row(numbers, len(numbers)):
+    if not is_row(numbers, len(numbers)):
         raise InvalidOperation("the diagonal must have numbers alone")
     places = range(len(numbers))
     return tuple([
@@ -37,7 +36,26 @@ def diagonal_table(numbers):
 def has_no_minus(table):
     """Whether no value of the table is below 0."""
     _check_table(table)
-    return all([worth >= 0 for worth in _worths(_steps(table, False))])
+    return rows_have_no_minus([whole_row(row)[0] for row in table])
+
+
+def rows_have_no_minus(rows):
+    """Whether a table has no minus whose rows, each multiplied by some integer above 0, are these lists of integers.
+
+    It can stop early: if no place at the diagonal is ever below 0, each row
+    with 0 there must be a row of 0, and no other pivots are needed.
+    """
+    last = 1
+    while rows:
+        if min([row[at] for at, row in enumerate(rows)]) < 0:
+            return False
+        line = rows[-1]
+        pivot = line[-1]
+        if pivot == 0 and any([entry != 0 for entry in line]):
+            return False
+        rows = [_cleared_at_end(row, line, last) for row in rows[:-1]]
+        last = last if pivot == 0 else pivot
+    return True
 
 
 def type_of(table):
@@ -62,7 +80,7 @@ def is_diagonal_paper(table, value):
     if not isinstance(value, tuple) or len(value) != 2:
         return False
     change, diagonal = value
-    if not _is_square(change, len(table)) or not _is_row(diagonal, len(table)):
+    if not _is_square(change, len(table)) or not is_row(diagonal, len(table)):
         return False
     wanted = diagonal_table(diagonal)
     if _products(table, change) != wanted:
@@ -70,7 +88,7 @@ def is_diagonal_paper(table, value):
     # If rows of the change, times factors, add up to 0, then each row with another
     # number than 0 at the diagonal has the factor 0: only those of noughts can do so.
     noughts = [at for at in range(len(table)) if wanted[at][at] == (0, 1)]
-    return _are_independent([_whole_row(change[at])[0] for at in noughts])
+    return _are_independent([whole_row(change[at])[0] for at in noughts])
 
 
 def minus_row(table):
@@ -85,7 +103,7 @@ def minus_row(table):
 def is_minus_row(table, value):
     """Whether the value is a row at which the table has a value below 0."""
     _check_table(table)
-    if not _is_row(value, len(table)):
+    if not is_row(value, len(table)):
         return False
     return value_at(table, value)[0] < 0
 
@@ -93,7 +111,7 @@ def is_minus_row(table, value):
 def value_at(table, row):
     """The value of the table at a row of numbers, a fraction."""
     _check_table(table)
-    if not _is_row(row, len(table)):
+    if not is_row(row, len(table)):
         raise InvalidRow("there must be a tuple of as many numbers as the table has rows")
     return _products(table, (row,))[0][0]
 
@@ -148,18 +166,11 @@ def _check_table(table):
         raise InvalidTable("there must be a symmetric tuple of 1 to 40 rows of numbers")
 
 
-def _is_row(value, count):
-    """Whether the value is a tuple of so many numbers."""
-    if not isinstance(value, tuple) or len(value) != count:
-        return False
-    return all([is_number(entry) for entry in value])
-
-
 def _is_square(value, count):
     """Whether the value is a tuple of so many rows of so many numbers."""
     if not isinstance(value, tuple) or len(value) != count:
         return False
-    return all([_is_row(row, count) for row in value])
+    return all([is_row(row, count) for row in value])
 
 
 def _is_symmetric(rows):
@@ -179,37 +190,16 @@ def _are_places(value, count):
     return all([low < high for low, high in zip(value, value[1:])])
 
 
-def _common_multiple(bottoms):
-    multiple = 1
-    for bottom in bottoms:
-        multiple = lcm(multiple, bottom)
-    return multiple
-
-
-def _common_divisor(row):
-    divisor = 0
-    for entry in row:
-        divisor = gcd(divisor, entry)
-    return divisor
-
-
-def _whole_row(row):
-    """The pair of a row as a list of integers, and of the integer by which it was multiplied."""
-    pairs = [pair_of(entry) for entry in row]
-    scale = _common_multiple([bottom for top, bottom in pairs])
-    return ([top * (scale // bottom) for top, bottom in pairs], scale)
-
-
 def _dot(row, other_row):
     return sum([x * y for x, y in zip(row, other_row)])
 
 
 def _products(table, rows):
     """For each two of the rows, x and y, the sum of x[i] * y[j] times the entry in the row i at j."""
-    flat, bottom = _whole_row([entry for line in table for entry in line])
+    flat, bottom = whole_row([entry for line in table for entry in line])
     count = len(table)
     entries = [flat[at * count:(at + 1) * count] for at in range(count)]
-    whole_rows = [_whole_row(row) for row in rows]
+    whole_rows = [whole_row(row) for row in rows]
     found = []
     for row, scale in whole_rows:
         led = [_dot(row, column) for column in entries]
@@ -249,7 +239,7 @@ def _first_rows(table, with_changes):
     rows = []
     scales = []
     for at, entries in enumerate(table):
-        row, scale = _whole_row(entries)
+        row, scale = whole_row(entries)
         change = [scale if place == at else 0 for place in range(len(table))]
         rows.append(row + change if with_changes else row)
         scales.append(scale)
@@ -299,6 +289,15 @@ def _taken_out(rows, place, last):
     return left
 
 
+def _cleared_at_end(row, line, last):
+    """The row without its last place, which the row of the last pivot has cleared; a pivot of 0 clears nothing."""
+    pivot = line[-1]
+    factor = row[-1]
+    if pivot == 0:
+        return row[:-1]
+    return [(pivot * x - factor * y) // last for x, y in zip(row[:-1], line)]
+
+
 def _worths(steps):
     """The values of the table at the changes of the steps."""
     worths = []
@@ -315,7 +314,7 @@ def _paper_lines(table):
     lines = []
     for worth, step in zip(_worths(steps), steps):
         change = step[2]
-        common = _common_divisor(change)
+        common = common_divisor(change)
         row = tuple([(entry // common, 1) for entry in change])
         lines.append((fraction(worth, common * common), row))
     return lines
@@ -339,7 +338,7 @@ def _cleared(row, pivot_row, place):
     pivot = pivot_row[place]
     factor = row[place]
     mixed = [pivot * x - factor * y for x, y in zip(row, pivot_row)]
-    common = _common_divisor(mixed)
+    common = common_divisor(mixed)
     if common == 0:
         return mixed
     return [entry // common for entry in mixed]

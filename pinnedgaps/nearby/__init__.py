@@ -1,0 +1,1 @@
+"""What is seen near a pin: local walks, their bounds, and how bounds trickle down."""
