@@ -1,6 +1,7 @@
 """Plain reckoning with Python's own fractions, and by no function of the package: what the tests compare with."""
 
 from fractions import Fraction
+from functools import cached_property
 from itertools import combinations
 from math import prod
 
@@ -98,8 +99,12 @@ class Bag:
         return [[self.weights[lot] / self.weight(*pin) if set(pin) <= set(lot) else Fraction(0) for lot in self.lots]
                 for pin in self.pins(self.size - 1)]
 
-    def redraw_rows(self):
+    @cached_property
+    def redraw(self):
         return row_products(self.leave_rows(), self.draw_rows())
+
+    def redraw_rows(self):
+        return self.redraw
 
     def grow_rows(self):
         return row_products(self.draw_rows(), self.leave_rows())

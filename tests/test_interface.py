@@ -46,6 +46,27 @@ FUNCTIONS = {
         "low_row": "lots pin bound", "is_low_row": "lots pin bound value", "row_quotient_at": "lots pin row",
         "value_stretch": "lots pin halvings",
     },
+    "pinnedgaps.nearby.trickle": {
+        "level_bound": "lots size halvings", "level_bounds": "lots halvings", "worst_pin": "lots size halvings",
+        "are_level_bounds": "lots value", "apart_pin": "lots", "trickled": "bound", "trickle_row": "bound steps",
+        "trickle_bounds": "lots halvings",
+    },
+    "pinnedgaps.going.redraw": {
+        "leave_table": "lots", "draw_table": "lots", "redraw_walk": "lots", "grow_walk": "lots",
+        "moved": "lots chances", "walk_trace": "lots steps", "grow_trace": "lots steps", "walk_parts": "lots",
+        "holding_chance": "lots lot",
+    },
+    "pinnedgaps.going.gaps": {
+        "gap_table": "lots gap", "is_gap": "lots value", "gap_row": "lots gap", "near_gap": "lots halvings",
+        "local_gap": "lots halvings", "trickle_gap": "lots halvings", "flow_of": "lots values",
+        "row_quotient": "lots values", "cut_quotient": "lots some",
+    },
+    "pinnedgaps.going.exchange": {
+        "lets_exchanges": "lots", "exchanges": "lots one other thing", "exchange_fault": "lots",
+        "is_exchange_fault": "lots value", "exchange_path": "lots one other",
+        "is_exchange_path": "lots one other value", "double_exchanges": "lots one other", "pinned_fault": "lots",
+        "is_pinned_fault": "lots value", "cheapest_lots": "lots prices", "is_settled": "lots one prices",
+    },
 }
 # Each class with its methods and their parameters; the own object is left out.
 METHODS = {

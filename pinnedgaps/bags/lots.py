@@ -235,7 +235,7 @@ def _pin_sums(lots, multiples):
     """For each size the dict from all pins of this size, ascending, to the sums of the multiples of their lots."""
     sums = {}
     for lot, many in zip(lots, multiples):
-        for pin in parts_of(lot):
-            sums[pin] = sums.get(pin, 0) + many
+        for part in parts_of(lot):
+            sums[part] = sums.get(part, 0) + many
     pins = sorted(sums)
     return [{pin: sums[pin] for pin in pins if len(pin) == size} for size in range(len(lots[0]) + 1)]

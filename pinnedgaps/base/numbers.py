@@ -93,8 +93,8 @@ def whole_row(numbers):
     """The pair of a list of integers and of the least integer by which the numbers were multiplied for it."""
     pairs = [pair_of(number) for number in numbers]
     scale = 1
-    for _, bottom in pairs:
-        scale = lcm(scale, bottom)
+    for pair in pairs:
+        scale = lcm(scale, pair[1])
     return ([top * (scale // bottom) for top, bottom in pairs], scale)
 
 

@@ -113,13 +113,13 @@ def _table(lots, pin, bound):
 def _bound_rows(rows, bound):
     """The rows of the table of a fraction, times its bottom, times the sum of all masses: integers."""
     top, bottom = bound
-    sums = [sum(row) for row in rows]
+    sums = [sum(line) for line in rows]
     total = sum(sums)
     found = []
     for place, row in enumerate(rows):
-        line = [(bottom - top) * sums[place] * mass - bottom * total * many for mass, many in zip(sums, row)]
-        line[place] += top * total * sums[place]
-        found.append(line)
+        entries = [(bottom - top) * sums[place] * mass - bottom * total * many for mass, many in zip(sums, row)]
+        entries[place] += top * total * sums[place]
+        found.append(entries)
     return found
 
 

@@ -124,7 +124,7 @@ def _reached(rows, start):
     while waiting:
         row = rows[waiting.pop()]
         fresh = [place for place, entry in enumerate(row) if entry != 0 and place not in reached]
-        for place in fresh:
-            reached[place] = True
+        for found in fresh:
+            reached[found] = True
         waiting = waiting + fresh
     return sorted(reached)

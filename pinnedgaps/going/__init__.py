@@ -1,0 +1,1 @@
+"""Walks of whole lots: the redraw walk, its gaps, and exchanges."""
