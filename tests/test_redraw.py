@@ -90,12 +90,12 @@ class TableTest(Checks):
             self.assertEqual([len(leave_table(lots)), len(draw_table(lots)[0]), len(redraw_walk(lots))], [40, 40, 40])
 
     def test_forty_pins(self):
-        lots = Lots.even(FORTY_FOURS.lots[:16])
-        for many in range(17, 41):
-            more = Lots.even(FORTY_FOURS.lots[:many])
-            lots = more if few_pins(more) else lots
-        self.assertGreater(len(lots.pins(3)), 36)
+        lots, more = Lots.even(FORTY_FOURS.lots[:30:2]), Lots.even(FORTY_FOURS.lots[:32:2])
+        self.assertEqual([len(lots.pins(3)), len(more.pins(3))], [40, 41])
         self.assertEqual(exact_rows(grow_walk(lots)), bag_of(lots).grow_rows())
+        self.assertEqual([grow_trace(lots, 0), grow_trace(lots, 1), walk_trace(lots, 1)], [(40, 1), (10, 1), (10, 1)])
+        self.too_many(40, grow_walk, more)
+        self.too_many(40, grow_trace, more, 0)
 
     def test_holding_chances(self):
         for lots in ALL:

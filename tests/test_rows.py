@@ -127,6 +127,12 @@ class RowsLotsTest(Checks):
         self.assertEqual(len(rows_lots(many, 2)), 16)
         self.assertEqual(rows_lots(many, 2).total, (24, 1))
 
+    def test_forty_rows(self):
+        # A row dict can have so many, but then they have too many things.
+        forty = {row: 1 for row in list(product(range(4), repeat=3))[:40]}
+        self.too_many(8, rows_lots, forty, 4)
+        self.raised(InvalidRow, rows_lots, forty, 2)
+
     def test_pins_pin_states_of_places(self):
         lots = rows_lots({(a, b, c): 1 + a + 2 * b * c for a, b, c in product(range(2), repeat=3)}, 2)
         self.assertEqual(lots.weight_of((1,)), (2 + 2 + 2 + 4, 1))
