@@ -3,7 +3,7 @@
 import unittest
 
 from pinnedgaps.base.numbers import is_fraction
-from pinnedgaps.errors import InvalidLots, InvalidNumber, TooMany
+from pinnedgaps.errors import InvalidField, InvalidLots, InvalidNumber, Refused, TooMany, UnknownName
 
 
 class Checks(unittest.TestCase):
@@ -38,6 +38,34 @@ class Checks(unittest.TestCase):
             for value in values:
                 with self.subTest(call=call.__name__, value=repr(value)[:80]):
                     self.raised(InvalidLots, call, value, *others)
+
+    def fields_are_refused_first(self, values, calls):
+        """Each call, a pair of a function and of its other arguments, raises `InvalidField` for each of the values."""
+        for call, others in calls:
+            for value in values:
+                with self.subTest(call=call.__name__, value=repr(value)[:80]):
+                    self.raised(InvalidField, call, value, *others)
+
+    def refused_in_order(self, call, right, wrong):
+        """Each wrong argument is refused with its error, also if a later one is wrong; the call takes the right ones.
+
+        `wrong` has for each of the first arguments a pair of a wrong value and of an error.
+        """
+        call(*right)
+        for at, (value, error) in enumerate(wrong):
+            for later in range(at, len(wrong)):
+                arguments = list(right)
+                arguments[later] = wrong[later][0]
+                arguments[at] = value
+                with self.subTest(call=call.__name__, at=at, later=later):
+                    caught = self.raised(error, call, *arguments)
+                    if error is InvalidNumber:
+                        self.assertIs(caught.given, value)
+                    if error is UnknownName:
+                        self.assertIs(caught.name, value)
+
+    def refused_for(self, reason, call, *arguments):
+        self.assertEqual(self.raised(Refused, call, *arguments).reason, reason)
 
     def each_judged(self, wanted, values, judge):
         """The judge returns `wanted`, True or False, for each of the values."""

@@ -3,16 +3,20 @@
 import importlib
 
 from pinnedgaps import errors
+from pinnedgaps.bags.lots import Lots
+from pinnedgaps.twostate.fields import Field
 
 OBJECTS = """
 >>> PAIRS = Lots.all_of(4, 2)
 >>> THREE = Lots({(0, 1, 2): 1, (0, 1, 3): 1, (0, 2, 3): 1})
+>>> RING = Field.free(4, ((0, 1), (0, 3), (1, 2), (2, 3)), 1)
+>>> MIXED = Field(((1, 2), (1, 1), (2, 1)), {(0, 1): ((2, 1), (1, 3)), (0, 2): ((1, 1), (2, 1)), (1, 2): ((1, 2), (3, 1))})
 """
 
 
 def run_examples(case, module_names, text):
     """Fails the test case for each example that returns or raises something else than what is written."""
-    names = {}
+    names = {"Lots": Lots, "Field": Field}
     for module_name in module_names:
         names.update(vars(importlib.import_module(module_name)))
     for code, wanted in examples_of(OBJECTS + text):
@@ -35,6 +39,6 @@ def outcome(code, names):
         return ""
     try:
         return repr(eval(compiled, names))
-    except (errors.GapError, IndexError, OverflowError, ArithmeticError) as error:
+    except (errors.GapError, IndexError, KeyError, RuntimeError, OverflowError, ArithmeticError) as error:
         kept = "".join(f"({value!r})" for value in vars(error).values())
         return f"raises {type(error).__name__}{kept}"

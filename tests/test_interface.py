@@ -8,6 +8,8 @@ import pathlib
 import unittest
 import warnings
 
+from pinnedgaps.use.desk import Desk
+
 ROOT = pathlib.Path(__file__).resolve().parent.parent
 PACKAGE = ROOT / "pinnedgaps"
 FILES = sorted(PACKAGE.rglob("*.py"))
@@ -67,6 +69,45 @@ FUNCTIONS = {
         "is_exchange_path": "lots one other value", "double_exchanges": "lots one other", "pinned_fault": "lots",
         "is_pinned_fault": "lots value", "cheapest_lots": "lots prices", "is_settled": "lots one prices",
     },
+    "pinnedgaps.nearby.influence": {
+        "open_places": "field pins", "influence": "field one other pins", "covariance": "field one other pins",
+        "influence_table": "field pins", "covariance_table": "field pins",
+        "influence_bound_table": "field pins bound", "is_influence_bound": "field pins bound",
+        "near_influence": "field pins halvings", "row_bound": "field pins", "influence_gap": "field halvings",
+    },
+    "pinnedgaps.twostate.fields": {
+        "is_field_data": "value", "is_pins": "field value", "row_weight": "field row", "rows_of": "field",
+        "field_lots": "field", "share": "field place pins", "is_tree": "field", "sums_towards": "field place",
+        "way_influence": "field one other",
+    },
+    "pinnedgaps.wood.trees": {
+        "is_order": "field value", "plain_order": "field", "is_tree_of_nodes": "field value",
+        "tree_ratio": "field nodes", "walk_tree": "field place order pins", "walk_to": "field nodes number",
+        "share_by_walks": "field place order pins",
+    },
+    "pinnedgaps.wood.cuts": {
+        "cut_stretch": "field place order depth", "cut_width": "field place order depth",
+        "is_in_cut": "field place order depth value", "deepest": "field place order",
+        "depth_enough": "field place order width", "is_free_field": "field", "narrow_factor": "field",
+        "narrow_bound": "field depth",
+    },
+    "pinnedgaps.twostate.totals": {
+        "total": "field", "shares_chain": "field row", "row_share": "field row", "left_field": "field place state",
+        "total_by_places": "field", "total_by_shares": "field row", "total_by_trees": "field row",
+        "free_total": "size ties weight", "free_number": "size ties", "free_numbers": "size ties",
+        "pairing_field": "size ties", "pairing_number": "size ties",
+    },
+    "pinnedgaps.going.both": {
+        "chance": "field place row", "redrawn": "field row place number", "dependence": "field one other",
+        "dependence_table": "field", "dependence_sum": "field", "dependence_gap": "field", "has_order": "field",
+        "order_fault": "field", "are_below": "field row value", "corner_shares": "field steps",
+    },
+    "pinnedgaps.going.steps": {
+        "shares_after": "lots lot steps", "distance_after": "lots lot steps", "mean_of": "lots values",
+        "variance": "lots values", "left_variance": "lots values", "led_values": "lots values",
+        "steps_enough": "lots gap lot number",
+    },
+    "pinnedgaps.use.desk": {"is_pledge": "value"},
 }
 # Each class with its methods and their parameters; the own object is left out.
 METHODS = {
@@ -75,9 +116,24 @@ METHODS = {
         "share_of": "pin", "link": "pin", "times": "factors", "__eq__": "other", "__len__": "",
         "__contains__": "value", "__str__": "",
     },
+    ("pinnedgaps.twostate.fields", "Field"): {
+        "__init__": "places ties", "free": "size ties weight", "neighbours": "place", "weights_at": "one other",
+        "__eq__": "other", "__len__": "", "__str__": "",
+    },
+    ("pinnedgaps.use.desk", "Desk"): {
+        "__init__": "", "put": "name field", "twice": "name one", "weigh": "name place weights",
+        "grow": "name weights", "tie": "name first second weights", "untie": "name first second", "drop": "name",
+        "rename": "names", "demand": "pledge", "waive": "pledge", "undo": "many", "redo": "many", "trial": "",
+        "during": "call", "twin": "", "field_named": "name", "__contains__": "value", "__len__": "", "__iter__": "",
+        "__eq__": "other", "__str__": "",
+    },
 }
-CLASS_METHODS = (("Lots", "all_of"), ("Lots", "even"))
-PROPERTIES = {("pinnedgaps.bags.lots", "Lots"): ("weights", "lots", "size", "things", "total")}
+CLASS_METHODS = (("Lots", "all_of"), ("Lots", "even"), ("Field", "free"))
+PROPERTIES = {
+    ("pinnedgaps.bags.lots", "Lots"): ("weights", "lots", "size", "things", "total"),
+    ("pinnedgaps.twostate.fields", "Field"): ("size", "places", "ties"),
+    ("pinnedgaps.use.desk", "Desk"): ("labels", "lines", "pledges", "changes"),
+}
 OUTSIDE = {"math": ("gcd", "lcm", "comb")}
 
 
@@ -102,6 +158,11 @@ class InterfaceTest(unittest.TestCase):
                     self.assertIs(isinstance(method, classmethod), (class_name, name) in CLASS_METHODS)
                     names = list(inspect.signature(getattr(method, "__func__", method)).parameters)
                     self.assertEqual(" ".join(names[1:]), parameters)
+
+    def test_keywords(self):
+        for name in ("undo", "redo"):
+            many = inspect.signature(vars(Desk)[name]).parameters["many"]
+            self.assertEqual([many.kind, many.default], [many.KEYWORD_ONLY, 1])
 
     def test_properties_cannot_be_assigned(self):
         for (module_name, class_name), names in PROPERTIES.items():

@@ -11,6 +11,7 @@ MAX_TEXT = 400
 
 # The least integer of more than sixty digits.
 _TOO_LONG = 10 ** 60
+_DIGITS_AT_ONCE = 1000
 
 
 def is_integer(value):
@@ -96,6 +97,31 @@ def whole_row(numbers):
     for pair in pairs:
         scale = lcm(scale, pair[1])
     return ([top * (scale // bottom) for top, bottom in pairs], scale)
+
+
+def sum_of(numbers):
+    """The sum of a list of numbers, a fraction."""
+    found = (0, 1)
+    for number in numbers:
+        found = added(found, number)
+    return found
+
+
+def product_of(numbers):
+    """The product of a list of numbers, a fraction."""
+    found = (1, 1)
+    for number in numbers:
+        found = multiplied(found, number)
+    return found
+
+
+def greatest_of(numbers):
+    """The greatest one of a list of one or more numbers."""
+    found = numbers[0]
+    for number in numbers:
+        if compared(number, found) > 0:
+            found = number
+    return found
 
 
 def fraction(top, bottom):
@@ -185,8 +211,8 @@ def number_text(number):
     """The text of a number, like -3/2, or 5 for a number with the bottom 1."""
     top, bottom = _checked(number)
     if bottom == 1:
-        return str(top)
-    return f"{top}/{bottom}"
+        return _whole_text(top)
+    return _whole_text(top) + "/" + _whole_text(bottom)
 
 
 def number_of_text(text):
@@ -229,6 +255,18 @@ def _raised(base, many):
     if (many & 1) == 0:
         return half * half
     return half * half * base
+
+
+def _whole_text(whole):
+    """The digits of an integer; Python refuses to write very long ones at once, so they are written in parts."""
+    sign = "-" if whole < 0 else ""
+    part = _raised(10, _DIGITS_AT_ONCE)
+    left = abs(whole)
+    words = []
+    while left >= part:
+        words.append(str(left % part).zfill(_DIGITS_AT_ONCE))
+        left = left // part
+    return sign + str(left) + "".join(reversed(words))
 
 
 def _pair_of_text(text):

@@ -67,13 +67,13 @@ def trickle_gap(lots, halvings):
 
 def flow_of(lots, values):
     """The flow of values, a fraction."""
-    _check_values(lots, values)
+    check_values(lots, values)
     return _flow(lots, values)
 
 
 def row_quotient(lots, values):
     """The quotient of the flow of values by their variance."""
-    _check_values(lots, values)
+    check_values(lots, values)
     return _quotient(lots, values)
 
 
@@ -85,7 +85,8 @@ def cut_quotient(lots, some):
     return _quotient(lots, tuple([1 if lot in some else 0 for lot in lots.lots]))
 
 
-def _check_values(lots, values):
+def check_values(lots, values):
+    """Refuses what are no weighted lots, and what are no numbers for them."""
     check_lots(lots)
     if not is_row(values, len(lots)):
         raise InvalidRow("there must be a tuple of one number for each lot")
@@ -180,14 +181,15 @@ def _flow(lots, values):
     return divided(flow, (lots.size * lots.multiple_of(()) * scale ** 2, 1))
 
 
-def _variance(lots, values):
+def variance_of(lots, values):
+    """The variance of values, which are right."""
     numbers, scale = whole_row(values)
     total, led, squares = _sums_of([(lots.multiple_of(lot), number) for lot, number in zip(lots.lots, numbers)])
     return fraction(total * squares - led ** 2, (total * scale) ** 2)
 
 
 def _quotient(lots, values):
-    variance = _variance(lots, values)
+    variance = variance_of(lots, values)
     if variance == (0, 1):
         raise InvalidOperation("the values have no variance")
     return divided(_flow(lots, values), variance)

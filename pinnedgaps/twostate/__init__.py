@@ -1,0 +1,1 @@
+"""Fields: places with two states, weights at places and at ties, and the totals of these weights."""

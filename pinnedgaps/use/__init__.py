@@ -1,0 +1,1 @@
+"""A desk with fields, pledges on them, and changes that can be taken back."""

@@ -1,0 +1,1 @@
+"""Trees of walks, which tell the shares of a field, and cut trees, which enclose them."""
