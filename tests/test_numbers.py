@@ -1,5 +1,6 @@
 """The promises [1.3] to [1.5], and the functions of pinnedgaps.base.numbers."""
 
+import sys
 import unittest
 from fractions import Fraction
 
@@ -244,6 +245,22 @@ class TextTest(NumbersTest):
     def test_long_texts_of_numbers(self):
         self.assertEqual(number_text((10 ** 3999, 1)), "1" + "0" * 3999)
         self.assertEqual(number_text((-1, 10 ** 3999)), "-1/1" + "0" * 3999)
+
+    def test_very_long_texts_of_numbers(self):
+        # Python itself writes integers of up to 4300 digits alone.
+        for digits in (999, 1000, 1001, 3999, 4300, 4301, 9000):
+            for whole in (10 ** digits, 10 ** digits - 1, 10 ** digits + 10 ** (digits // 2)):
+                self.assertEqual(number_text((whole, 1)), self.long_text(whole))
+                self.assertEqual(number_text((-whole, 1)), "-" + self.long_text(whole))
+        self.assertEqual(number_text((-7 ** 6000, 2 ** 20000)),
+                         "-" + self.long_text(7 ** 6000) + "/" + self.long_text(2 ** 20000))
+
+    def long_text(self, whole):
+        sys.set_int_max_str_digits(0)
+        try:
+            return str(whole)
+        finally:
+            sys.set_int_max_str_digits(4300)
 
     def test_texts_of_400_characters(self):
         for text in ("1" + "0" * 399, "-" + "9" * 399, "1/" + "3" * 398, "-" + "7" * 99 + "/1" + "0" * 298):
