@@ -39,7 +39,7 @@ NO_ORDERS = ODD_VALUES + (
 NO_NODES = ODD_VALUES + (
     ROOT, [ROOT], ([0, -1, None],), ((0, -1),), ((0, -1, None, None),), ((0, 0, None),), ((0, None, None),),
     ((0, -1, 0),), ((0, -1, 1),), ((4, -1, None),), ((-1, -1, None),), ((True, -1, None),), ((0, True, None),),
-    (ROOT, ROOT), (ROOT, (1, -1, None)), (ROOT, (1, 1, None)), (ROOT, (1, 2, None), (1, 0, None)), (ROOT, (2, 0, None)),
+    (ROOT, ROOT), (ROOT, (1, -1, None)), (ROOT, (1, -1, None), (2, 1, None)), (ROOT, (1, -2, None)), (ROOT, (1, 1, None)), (ROOT, (1, 2, None), (1, 0, None)), (ROOT, (2, 0, None)),
     (ROOT, (0, 0, None)), (ROOT, (1, 0, 2)), (ROOT, (1, 0, -1)), (ROOT, (1, 0, True)), (ROOT, (1, 0, False)),
     (ROOT, (1, False, None)), (ROOT, (True, 0, None)), (ROOT, (1, 0, "0")), (ROOT, (1, 0, ())), (ROOT, (1, 0, (1, 1))),
     (ROOT, (1, 0, 0), (0, 1, None)), (ROOT, (1, 0, 1), (2, 1, 1)), (ROOT, (1, 0, None), (3, 1, None)), (ROOT, None),

@@ -124,6 +124,20 @@ def greatest_of(numbers):
     return found
 
 
+def least_that_holds(low, high, holds):
+    """The least integer above `low` for which something holds, found by halving.
+
+    It does not hold for `low`, and it holds for `high` and for each integer behind one for which it holds.
+    """
+    while high - low > 1:
+        middle = (low + high) // 2
+        if holds(middle):
+            high = middle
+        else:
+            low = middle
+    return high
+
+
 def fraction(top, bottom):
     """The fraction that is the quotient of two integers of any length."""
     if not _is_whole(top):

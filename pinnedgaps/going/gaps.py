@@ -2,8 +2,8 @@
 
 from pinnedgaps.bags.lots import check_lots, has_all
 from pinnedgaps.base.numbers import (
-    added, check_halvings, check_number, compared, divided, fraction, is_number, is_row, less, multiplied, pair_of,
-    whole_row)
+    added, check_halvings, check_number, compared, divided, fraction, is_number, is_row, least_that_holds, less,
+    multiplied, pair_of, whole_row)
 from pinnedgaps.base.tables import minus_row, rows_have_no_minus
 from pinnedgaps.errors import InvalidOperation, InvalidRow
 from pinnedgaps.going.redraw import lot_shares, redraw_walk, shorter_walk
@@ -132,13 +132,7 @@ def _is_gap(walk, gap):
 
 def _last_gap(walk, low, high, steps):
     """The greatest integer whose quotient by `steps` is a gap; that of `low` is one, and that of `high` is none."""
-    while high - low > 1:
-        middle = (low + high) // 2
-        if _is_gap(walk, fraction(middle, steps)):
-            low = middle
-        else:
-            high = middle
-    return low
+    return least_that_holds(low, high, lambda middle: not _is_gap(walk, fraction(middle, steps))) - 1
 
 
 def _rounded(walk):

@@ -8,7 +8,8 @@ from math import lcm
 
 from pinnedgaps.bags.lots import check_lots
 from pinnedgaps.base.numbers import (
-    check_number, check_within, compared, divided, fraction, is_above_0, less, multiplied, power_of, whole_row)
+    check_number, check_within, compared, divided, fraction, is_above_0, least_that_holds, less, multiplied, power_of,
+    whole_row)
 from pinnedgaps.errors import InvalidOperation, InvalidPin, TooMany
 from pinnedgaps.going.gaps import check_values, flow_of, is_gap, variance_of
 from pinnedgaps.going.redraw import pins_of
@@ -119,14 +120,7 @@ def _least_steps(factor, limit):
         if high == MOST_ENOUGH:
             raise TooMany(MOST_ENOUGH)
         high = min(2 * high, MOST_ENOUGH)
-    low = high // 2
-    while high - low > 1:
-        middle = (low + high) // 2
-        if _is_enough(factor, limit, middle):
-            high = middle
-        else:
-            low = middle
-    return high
+    return least_that_holds(high // 2, high, lambda middle: _is_enough(factor, limit, middle))
 
 
 def _is_enough(factor, limit, many):

@@ -1,7 +1,7 @@
 """Bounds of local walks: how great the values of a local walk can be, told by tables without a minus."""
 
 from pinnedgaps.base.numbers import (
-    check_halvings, check_number, compared, fraction, is_row, less, pair_of, whole_row)
+    check_halvings, check_number, compared, fraction, is_row, least_that_holds, less, pair_of, whole_row)
 from pinnedgaps.base.tables import is_minus_row, minus_row, rows_have_no_minus
 from pinnedgaps.errors import InvalidOperation, InvalidRow
 from pinnedgaps.nearby.local import check_near, check_room, pair_rows, things_left
@@ -28,15 +28,8 @@ def near_bound(lots, pin, halvings):
     steps = 1 << halvings
     if is_bound_of_rows(rows, (-1, 1)):
         return (-1, 1)
-    low = -steps
-    high = steps
-    while high - low > 1:
-        middle = (low + high) // 2
-        if is_bound_of_rows(rows, fraction(middle, steps)):
-            high = middle
-        else:
-            low = middle
-    return fraction(high, steps)
+    found = least_that_holds(-steps, steps, lambda middle: is_bound_of_rows(rows, fraction(middle, steps)))
+    return fraction(found, steps)
 
 
 def low_row(lots, pin, bound):

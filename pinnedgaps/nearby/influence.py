@@ -1,7 +1,8 @@
 """Influences: how much a state at one place of a field changes the share of a state at another one."""
 
 from pinnedgaps.base.numbers import (
-    check_halvings, check_number, divided, fraction, greatest_of, grid_above, less, multiplied, pair_of, whole_row)
+    check_halvings, check_number, divided, fraction, greatest_of, grid_above, least_that_holds, less, multiplied,
+    pair_of, whole_row)
 from pinnedgaps.base.tables import rows_have_no_minus
 from pinnedgaps.errors import TooMany
 from pinnedgaps.twostate.fields import (
@@ -13,7 +14,7 @@ MAX_LISTED = 4
 
 def open_places(field, pins):
     """The ascending tuple of the places that have both states in rows with the pins."""
-    _check_pinned(field, pins)
+    check_pins(field, pins)
     return tuple([place for place in range(field.size) if is_open(field, place, pins)])
 
 
@@ -31,21 +32,21 @@ def covariance(field, one, other, pins):
 
 def influence_table(field, pins):
     """The rows of the influences of all places on all places."""
-    _check_pinned(field, pins)
+    check_pins(field, pins)
     places = range(field.size)
     return tuple([tuple([lift_of(field, one, other, pins) for other in places]) for one in places])
 
 
 def covariance_table(field, pins):
     """The rows of the covariances of all places with all places."""
-    _check_pinned(field, pins)
+    check_pins(field, pins)
     places = range(field.size)
     return tuple([tuple([_covariance(field, one, other, pins) for other in places]) for one in places])
 
 
 def influence_bound_table(field, pins, bound):
     """The table of a number: it has no minus exactly if the number is an influence bound."""
-    _check_pinned(field, pins)
+    check_pins(field, pins)
     check_number(bound)
     rows = covariance_table(field, pins)
     return tuple([
@@ -56,34 +57,27 @@ def influence_bound_table(field, pins, bound):
 
 def is_influence_bound(field, pins, bound):
     """Whether the number is an influence bound."""
-    _check_pinned(field, pins)
+    check_pins(field, pins)
     check_number(bound)
     return _is_bound_of_rows(_whole_covariances(field, pins), pair_of(bound))
 
 
 def near_influence(field, pins, halvings):
     """The least multiple of 1 / 2 ** halvings, from 0 on, that is an influence bound."""
-    _check_pinned(field, pins)
+    check_pins(field, pins)
     check_halvings(halvings)
     rows = _whole_covariances(field, pins)
-    if _is_bound_of_rows(rows, (0, 1)):
-        return (0, 1)
     steps = 1 << halvings
     top, bottom = grid_above(_row_bound(rows), halvings)
-    low = 0
-    high = top * (steps // bottom)
-    while high - low > 1:
-        middle = (low + high) // 2
-        if _is_bound_of_rows(rows, fraction(middle, steps)):
-            high = middle
-        else:
-            low = middle
-    return fraction(high, steps)
+    # 0 is a bound only if there are no influences at all, and then the row bound is 0, too.
+    found = least_that_holds(
+        0, top * (steps // bottom), lambda middle: _is_bound_of_rows(rows, fraction(middle, steps)))
+    return fraction(found, steps)
 
 
 def row_bound(field, pins):
     """The greatest sum of the sizes of the influences of one place on all others."""
-    _check_pinned(field, pins)
+    check_pins(field, pins)
     return _row_bound(_whole_covariances(field, pins))
 
 
@@ -99,11 +93,6 @@ def influence_gap(field, halvings):
         factor = less(1, divided(greatest_of(bounds), field.size - count - 1))
         gap = multiplied(gap, greatest_of([factor, (0, 1)]))
     return gap
-
-
-def _check_pinned(field, pins):
-    check_field(field)
-    check_pins(field, pins)
 
 
 def _check_places(field, one, other, pins):

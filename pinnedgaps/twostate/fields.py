@@ -202,7 +202,7 @@ def check_place(field, place):
 
 
 def check_pins(field, pins):
-    """Refuses what are no pins of the field."""
+    """Refuses what is no field, and what are no pins of it."""
     if not is_pins(field, pins):
         raise InvalidPin("there must be a dict from places to states that some row has")
 

@@ -51,11 +51,8 @@ def total_by_places(field):
     weights = field.places[0]
     if field.size == 1:
         return added(weights[0], weights[1])
-    found = (0, 1)
-    for state, weight in enumerate(weights):
-        if weight != (0, 1):
-            found = added(found, multiplied(weight, total_by_places(_left_field(field, 0, state))))
-    return found
+    left = [total_by_places(_left_field(field, 0, state)) for state in (0, 1)]
+    return added(multiplied(weights[0], left[0]), multiplied(weights[1], left[1]))
 
 
 def total_by_shares(field, row):
@@ -114,7 +111,7 @@ def _check_possible_row(field, row):
 
 
 def _left_field(field, place, state):
-    """The field that is left, the state being a possible one."""
+    """The field that is left; it is told also for a state that never comes."""
     others = [other for other in range(field.size) if other != place]
     places = tuple([_left_weights(field, place, state, other) for other in others])
     ties = {

@@ -96,7 +96,7 @@ def _is_tie(value, size):
     """Whether the value is a pair of places, the first one below the other one."""
     if not isinstance(value, tuple) or len(value) != 2:
         return False
-    return is_within(value[0], 0, size - 1) and is_within(value[1], value[0] + 1, size - 1)
+    return is_within(value[1], 0, size - 1) and is_within(value[0], 0, value[1] - 1)
 
 
 def _longer_rows(rows, weights, ties):

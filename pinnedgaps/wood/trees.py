@@ -33,7 +33,6 @@ def is_tree_of_nodes(field, value):
 
 def tree_ratio(field, nodes):
     """The ratio of the root of a tree of nodes, a fraction."""
-    check_field(field)
     _check_nodes(field, nodes)
     return _root_ratio(field, nodes)
 
@@ -49,7 +48,6 @@ def walk_tree(field, place, order, pins):
 
 def walk_to(field, nodes, number):
     """The tuple of the places from the root to a node."""
-    check_field(field)
     _check_nodes(field, nodes)
     if not is_within(number, 0, len(nodes) - 1):
         raise InvalidNumber(number)
@@ -103,6 +101,7 @@ def share_of_ratio(ratio):
 
 
 def _check_nodes(field, nodes):
+    """Refuses what is no field, and what is no tree of nodes of it."""
     if not is_tree_of_nodes(field, nodes):
         raise InvalidOperation("there must be a tree of nodes of the field")
 
