@@ -85,7 +85,7 @@ def corner_shares(field, steps):
         raise InvalidOperation("the field must keep the order")
     rows = _rows_with(field.size, range(field.size))
     drawn = _drawn(field, rows)
-    return (_corner(field, drawn, rows[0], steps), _corner(field, drawn, rows[-1], steps))
+    return (_corner(rows, drawn, rows[0], steps), _corner(rows, drawn, rows[-1], steps))
 
 
 def _chance(field, place, row):
@@ -140,15 +140,14 @@ def _state_chance(field, place, row):
     return found if row[place] == 1 else less(1, found)
 
 
-def _corner(field, drawn, start, steps):
-    """The chances of the state 1 at all places behind so many steps from a row."""
-    rows = _rows_with(field.size, range(field.size))
+def _corner(rows, drawn, start, steps):
+    """The chances of the state 1 at all places behind so many steps from a row; `rows` are all rows."""
     worths = {row: 1 if row == start else 0 for row in rows}
     for _ in range(steps):
         worths = {row: _came(worths, drawn, row) for row in rows}
     every = sum([worths[row] for row in rows])
     return tuple([
-        fraction(sum([worths[row] for row in rows if row[place] == 1]), every) for place in range(field.size)
+        fraction(sum([worths[row] for row in rows if row[place] == 1]), every) for place in range(len(start))
     ])
 
 

@@ -40,6 +40,7 @@ def is_from_0(value):
 
 
 def as_pairs(numbers):
+    """The tuple of the numbers as fractions."""
     return tuple([pair_of(number) for number in numbers])
 
 
