@@ -83,7 +83,7 @@ def corner_shares(field, steps):
     check_within(steps, 0, MOST_STEPS)
     if not has_order(field):
         raise InvalidOperation("the field must keep the order")
-    rows = _rows_with(field.size, range(field.size))
+    rows = _rows_with(field.size, list(range(field.size)))
     drawn = _drawn(field, rows)
     return (_corner(rows, drawn, rows[0], steps), _corner(rows, drawn, rows[-1], steps))
 
